@@ -1,0 +1,1 @@
+"""Everyworth: answers that carry how they came, for every way of counting."""

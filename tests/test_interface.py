@@ -1,0 +1,54 @@
+"""Everything that the document lists stands under its name in its own file."""
+
+import importlib
+import inspect
+import unittest
+
+SEMIRING = {
+    "zero": ["self"], "one": ["self"], "plus": ["self", "a", "b"], "times": ["self", "a", "b"],
+    "star": ["self", "a"], "is_element": None,
+}
+STORE = {
+    "__init__": ["self", "tables"], "tables": ["self"], "arity": ["self", "table"],
+    "add": ["self", "table", "row"], "give_up": ["self", "number"],
+    "bring_back": ["self", "number"], "fact": ["self", "number"], "is_there": ["self", "number"],
+    "find": ["self", "table", "row"], "rows": ["self", "table"], "count": ["self"],
+    "copy": ["self"],
+}
+CLASSES = {
+    "everyworth.facts": {"Facts": STORE},
+    "everyworth.semirings": {
+        "Numbers": SEMIRING, "Costs": SEMIRING,
+        "Levels": {"__init__": ["self", "top"], **SEMIRING},
+        "Events": {"__init__": ["self", "count"], **SEMIRING},
+    },
+}
+FUNCTIONS = {
+    "everyworth.values": {
+        "is_name": ["thing"], "is_value": ["thing"], "is_row": ["thing"], "in_order": ["rows"],
+    },
+}
+
+
+class InterfaceTest(unittest.TestCase):
+    def check(self, made, module, parameters):
+        self.assertEqual(made.__module__, module)
+        if parameters is not None:
+            self.assertEqual(list(inspect.signature(made).parameters), parameters, made)
+
+    def test_methods_stand_in_their_classes(self):
+        for module, classes in CLASSES.items():
+            for name, methods in classes.items():
+                made = getattr(importlib.import_module(module), name)
+                self.assertEqual(made.__module__, module)
+                for method, parameters in methods.items():
+                    self.check(vars(made)[method], module, parameters)
+
+    def test_functions_stand_in_their_files(self):
+        for module, functions in FUNCTIONS.items():
+            for name, parameters in functions.items():
+                self.check(getattr(importlib.import_module(module), name), module, parameters)
+
+
+if __name__ == "__main__":
+    unittest.main()
