@@ -53,7 +53,7 @@ class AxiomError(WorthError):
     """Tables are not those of a semiring: `code` tells what fails (point 8)."""
 
     def __init__(self, code):
-        WorthError.__init__(self, f"the tables fail by {code}")
+        super().__init__(f"the tables fail by {code}")
         self.code = code
 
 
@@ -61,5 +61,5 @@ class QueryError(WorthError):
     """A query does not pass its check: `code` tells what fails (point 11)."""
 
     def __init__(self, code):
-        WorthError.__init__(self, f"the query fails by {code}")
+        super().__init__(f"the query fails by {code}")
         self.code = code

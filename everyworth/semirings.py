@@ -31,9 +31,9 @@ class Numbers:
             raise NoStar("a number above 0 has no star")
         return 1
 
-    def is_element(self, thing):
+    def is_element(self, a):
         """Tell whether a thing is an element."""
-        return is_natural(thing)
+        return is_natural(a)
 
 
 class Costs:
@@ -65,9 +65,9 @@ class Costs:
         """Return the star, which is 0 for each cost."""
         return 0
 
-    def is_element(self, thing):
+    def is_element(self, a):
         """Tell whether a thing is an element."""
-        return thing is None or is_natural(thing)
+        return a is None or is_natural(a)
 
 
 class Levels:
@@ -98,9 +98,9 @@ class Levels:
         """Return the star, which is the top for each level."""
         return self._top
 
-    def is_element(self, thing):
+    def is_element(self, a):
         """Tell whether a thing is an element."""
-        return is_between(thing, 0, self._top)
+        return is_between(a, 0, self._top)
 
 
 class Events:
@@ -131,6 +131,6 @@ class Events:
         """Return the star, which has all bits for each element."""
         return self._all_bits
 
-    def is_element(self, thing):
+    def is_element(self, a):
         """Tell whether a thing is an element."""
-        return is_between(thing, 0, self._all_bits)
+        return is_between(a, 0, self._all_bits)

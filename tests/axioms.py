@@ -48,3 +48,20 @@ def check_no_elements(case, semiring, things):
     """Check that none of the things is an element, and that False itself says so."""
     for thing in things:
         case.assertIs(semiring.is_element(thing), False, repr(thing))
+
+
+# What stands nowhere in a tuple of naturals, sets, monomials or powers.
+SPOILS = [
+    True, False, None, -1, -(10 ** 20), 1.0, "", "a", "1", b"1", [], [1], [()], [(0, 1)],
+    {}, {0: 1}, {1}, (None,), ("a",), (-1,), (True,), ([],), ((None, 1),), object(),
+]
+
+
+def spoiled(thing, spoils=SPOILS):
+    """Return each form of a nested tuple in which one part, or all of it, is spoiled."""
+    forms = list(spoils)
+    if isinstance(thing, tuple):
+        forms.append(list(thing))
+        for k, part in enumerate(thing):
+            forms += [thing[:k] + (form,) + thing[k + 1:] for form in spoiled(part, spoils)]
+    return forms

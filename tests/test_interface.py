@@ -6,7 +6,7 @@ import unittest
 
 SEMIRING = {
     "zero": ["self"], "one": ["self"], "plus": ["self", "a", "b"], "times": ["self", "a", "b"],
-    "star": ["self", "a"], "is_element": None,
+    "star": ["self", "a"], "is_element": ["self", "a"],
 }
 STORE = {
     "__init__": ["self", "tables"], "tables": ["self"], "arity": ["self", "table"],
@@ -22,10 +22,22 @@ CLASSES = {
         "Levels": {"__init__": ["self", "top"], **SEMIRING},
         "Events": {"__init__": ["self", "count"], **SEMIRING},
     },
+    "everyworth.whys": {"Whys": SEMIRING},
+    "everyworth.polynomials": {"Polynomials": SEMIRING},
+    "everyworth.finite": {
+        "Finite": {
+            "__init__": ["self", "plus_table", "times_table", "one", "stars"], "size": ["self"],
+            **SEMIRING,
+        },
+    },
+    "everyworth.mixed": {"Both": {"__init__": ["self", "first", "second"], **SEMIRING}},
 }
 FUNCTIONS = {
     "everyworth.values": {
         "is_name": ["thing"], "is_value": ["thing"], "is_row": ["thing"], "in_order": ["rows"],
+    },
+    "everyworth.polynomials": {
+        "variable": ["fact"], "degree": ["polynomial"], "value_at": ["polynomial", "numbers"],
     },
 }
 
@@ -33,8 +45,7 @@ FUNCTIONS = {
 class InterfaceTest(unittest.TestCase):
     def check(self, made, module, parameters):
         self.assertEqual(made.__module__, module)
-        if parameters is not None:
-            self.assertEqual(list(inspect.signature(made).parameters), parameters, made)
+        self.assertEqual(list(inspect.signature(made).parameters), parameters, made)
 
     def test_methods_stand_in_their_classes(self):
         for module, classes in CLASSES.items():
