@@ -31,6 +31,13 @@ CLASSES = {
         },
     },
     "everyworth.mixed": {"Both": {"__init__": ["self", "first", "second"], **SEMIRING}},
+    "everyworth.circuits": {
+        "Circuits": {
+            "__init__": ["self"], "fact": ["self", "k"], "plus": ["self", "nodes"],
+            "times": ["self", "nodes"], "star": ["self", "node"], "shown": ["self", "node"],
+            "count": ["self"], "facts_in": ["self", "node"],
+        },
+    },
 }
 FUNCTIONS = {
     "everyworth.values": {
@@ -39,6 +46,15 @@ FUNCTIONS = {
     "everyworth.polynomials": {
         "variable": ["fact"], "degree": ["polynomial"], "value_at": ["polynomial", "numbers"],
     },
+    "everyworth.queries": {
+        "arity_of": ["query", "tables", "views"], "names_in": ["query", "kind"],
+    },
+    "everyworth.meaning": {"meaning": ["query", "facts", "views", "semiring", "worths"]},
+    "everyworth.circuits": {
+        "worth": ["circuits", "node", "semiring", "worths"],
+        "put_in": ["circuits", "node", "nodes"], "leaves": ["circuits", "node"],
+    },
+    "everyworth.building": {"circuits_of": ["query", "facts", "views", "circuits"]},
 }
 
 
