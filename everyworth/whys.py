@@ -19,14 +19,14 @@ class Whys:
 
     def plus(self, a, b):
         """Return the least ones of the sets of both."""
-        facts = _facts_in(a + b)
-        return _whys_of(_masks(a + b, facts), facts)
+        facts = facts_of(a + b)
+        return _whys_of(masks_of(a + b, facts), facts)
 
     def times(self, a, b):
         """Return the least ones of the unions of a set of a with a set of b."""
-        facts = _facts_in(a + b)
-        firsts = _masks(a, facts)
-        seconds = _masks(b, facts)
+        facts = facts_of(a + b)
+        firsts = masks_of(a, facts)
+        seconds = masks_of(b, facts)
         return _whys_of([first | second for first in firsts for second in seconds], facts)
 
     def star(self, a):
@@ -47,28 +47,30 @@ def _is_set(thing):
 
 
 def _none_within_another(sets):
-    masks = _masks(sets, _facts_in(sets))
-    return len(_least(masks, len(masks))) == len(masks)
+    masks = masks_of(sets, facts_of(sets))
+    return len(least_masks(masks, len(masks))) == len(masks)
 
 
-def _facts_in(sets):
+def facts_of(sets):
+    """Return the facts in some sets, ascending."""
     return sorted({fact: True for facts in sets for fact in facts})
 
 
-def _masks(sets, facts):
+def masks_of(sets, facts):
     """Return each set as an integer in which a bit tells by its place the fact in the list."""
     bits = {facts[k]: 1 << k for k in range(len(facts))}
     return [sum([bits[fact] for fact in one]) for one in sets]
 
 
 def _whys_of(masks, facts):
-    least = _least(masks, MOST_SETS + 1)
-    if len(least) > MOST_SETS:
+    kept = least_masks(masks, MOST_SETS + 1)
+    if len(kept) > MOST_SETS:
         raise TooLarge("there would be more than 400 sets")
-    return tuple(sorted([_set_of(mask, facts) for mask in least]))
+    return tuple(sorted([set_of(mask, facts) for mask in kept]))
 
 
-def _set_of(mask, facts):
+def set_of(mask, facts):
+    """Return the ascending tuple of the facts in a list whose bits a mask has."""
     found = []
     while mask:
         lowest = mask & -mask
@@ -77,7 +79,7 @@ def _set_of(mask, facts):
     return tuple(found)
 
 
-def _least(masks, enough):
+def least_masks(masks, enough):
     """Return the masks of which no other one is a part, each once, but no more than enough."""
     kept = []
     by_lowest = {}

@@ -38,6 +38,17 @@ CLASSES = {
             "count": ["self"], "facts_in": ["self", "node"],
         },
     },
+    "everyworth.engine": {
+        "Engine": {
+            "__init__": ["self", "tables"], "add": ["self", "table", "row"],
+            "give_up": ["self", "number"], "bring_back": ["self", "number"],
+            "define": ["self", "name", "query"], "undo": ["self"], "facts": ["self"],
+            "circuits": ["self"], "views": ["self"], "query": ["self", "view"],
+            "arity": ["self", "view"], "queries": ["self"], "rows": ["self", "view"],
+            "node": ["self", "view", "row"], "changed": ["self"],
+            "worth": ["self", "view", "row", "semiring", "worths"],
+        },
+    },
 }
 FUNCTIONS = {
     "everyworth.values": {
@@ -55,6 +66,16 @@ FUNCTIONS = {
         "put_in": ["circuits", "node", "nodes"], "leaves": ["circuits", "node"],
     },
     "everyworth.building": {"circuits_of": ["query", "facts", "views", "circuits"]},
+    "everyworth.reasons": {
+        "least_whys": ["engine", "view", "row"], "repairs": ["engine", "view", "row"],
+        "missing": ["engine", "view", "row", "candidates"],
+        "rows_left": ["engine", "view", "numbers"],
+    },
+    "everyworth.trees": {
+        "tree_of": ["facts", "views", "query", "row", "numbers"],
+        "facts_used": ["facts", "views", "query", "row", "tree"],
+    },
+    "everyworth.chances": {"chance": ["whys", "chances"]},
 }
 
 
