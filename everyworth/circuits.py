@@ -204,11 +204,16 @@ def worth(circuits, node, semiring, worths):
 
 def put_in(circuits, node, nodes):
     """Return the node in which some facts are replaced by nodes."""
-    before = circuits.count()
+    return carried(circuits, node, circuits, nodes)
+
+
+def carried(source, node, target, nodes):
+    """Return the node of another store that is made as a node is, some facts being replaced."""
+    before = target.count()
     try:
-        return all_made(circuits, [node], Exchange(circuits, nodes))[node]
+        return all_made(source, [node], Exchange(target, nodes))[node]
     except TooLarge:
-        circuits.forget(before)
+        target.forget(before)
         raise
 
 

@@ -21,6 +21,11 @@ def is_pair(thing):
     return isinstance(thing, tuple) and len(thing) == 2
 
 
+def is_decimal(text):
+    """Tell whether a text consists of one or more of the digits from 0 to 9."""
+    return text != "" and all("0" <= letter <= "9" for letter in text)
+
+
 def ascends(things):
     """Tell whether each of several comparable things is less than the next one."""
     return all(things[k] < things[k + 1] for k in range(len(things) - 1))

@@ -101,12 +101,13 @@ def value_at(polynomial, numbers):
     for monomial, coefficient in polynomial:
         part = coefficient
         for fact, exponent in monomial:
-            part = part * _power(numbers.get(fact, 0), exponent)
+            part = part * power(numbers.get(fact, 0), exponent)
         total = total + part
     return total
 
 
-def _power(base, exponent):
+def power(base, exponent):
+    """Return the power of an integer, the exponent being at least 0."""
     result = 1
     while exponent > 0:
         if exponent & 1:

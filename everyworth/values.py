@@ -19,12 +19,13 @@ def is_name(thing):
 def is_value(thing):
     """Tell whether a thing is a value."""
     if isinstance(thing, str):
-        return len(thing) <= LONGEST_TEXT and all(_is_plain(letter) for letter in thing)
+        return len(thing) <= LONGEST_TEXT and is_plain(thing)
     return is_integer(thing)
 
 
-def _is_plain(letter):
-    return " " <= letter <= "~" and ord(letter) != BARRED
+def is_plain(text):
+    """Tell whether a text has only the characters that texts consist of (point 2)."""
+    return all(" " <= letter <= "~" and ord(letter) != BARRED for letter in text)
 
 
 def is_row(thing):

@@ -49,6 +49,7 @@ CLASSES = {
             "worth": ["self", "view", "row", "semiring", "worths"],
         },
     },
+    "everyworth.tops": {"Tops": {"__init__": ["self", "k"], **SEMIRING}},
 }
 FUNCTIONS = {
     "everyworth.values": {
@@ -76,6 +77,19 @@ FUNCTIONS = {
         "facts_used": ["facts", "views", "query", "row", "tree"],
     },
     "everyworth.chances": {"chance": ["whys", "chances"]},
+    "everyworth.normal": {
+        "normal": ["circuits", "node"], "same_worth": ["circuits", "one", "other"],
+        "witness": ["circuits", "one", "other"], "factored": ["circuits", "node"],
+    },
+    "everyworth.totals": {
+        "totals": ["engine", "view", "columns", "column"],
+        "in_numbers": ["circuits", "total", "worths"],
+        "in_events": ["circuits", "total", "count", "worths"],
+    },
+    "everyworth.notation": {
+        "write": ["thing"], "read": ["text"], "store_text": ["facts"], "read_store": ["text"],
+    },
+    "everyworth.tops": {"best_costs": ["circuits", "node", "k", "costs"]},
 }
 
 
