@@ -1,8 +1,6 @@
 """Normal forms of nodes: equal worths, witnesses, and factored nodes (points 28 and 29)."""
 
-from everyworth.circuits import (
-    MOST_IN_ONE, ONE, ZERO, Circuits, carried, leaves, nodes_within, worth,
-)
+from everyworth.circuits import ONE, ZERO, Circuits, carried, leaves, nodes_within, worth
 from everyworth.errors import NoStar, TooLarge
 from everyworth.polynomials import Polynomials, power, variable
 from everyworth.whys import facts_of
@@ -76,7 +74,7 @@ def factored(circuits, node):
     """Return a node of the same normal form in which common facts stand ahead of sums."""
     polynomial = normal(circuits, node)
     draft = Circuits()
-    # A node never has more leaves than its normal form: it stays where nothing else is told.
+    # A node never has more leaves than its normal form: so it may stay as it is.
     try:
         made = _drafted(draft, polynomial)
     except TooLarge:
@@ -100,7 +98,7 @@ def _drafted(draft, polynomial):
         products[left] = [_constant(draft, many)]
     for fact in facts:
         products = _taken_out(draft, fact, products)
-    return _product(draft, products.get((), [ZERO]))
+    return draft.times(products.get((), [ZERO]))
 
 
 def _rare_first(polynomial):
@@ -129,19 +127,10 @@ def _sum_of_powers(draft, base, terms):
     terms = sorted(terms, reverse=True)
     above, factors = terms[0]
     for exponent, others in terms[1:]:
-        inner = _product(draft, factors + [_power(draft, base, above - exponent)])
-        factors = [draft.plus([inner, _product(draft, others)])]
+        inner = draft.times(factors + [_power(draft, base, above - exponent)])
+        factors = [draft.plus([inner, draft.times(others)])]
         above = exponent
     return factors + [_power(draft, base, above)] if above > 0 else factors
-
-
-def _product(draft, factors):
-    while len(factors) > MOST_IN_ONE:
-        factors = [
-            draft.times(factors[start:start + MOST_IN_ONE])
-            for start in range(0, len(factors), MOST_IN_ONE)
-        ]
-    return draft.times(factors)
 
 
 def _power(draft, base, exponent):
@@ -165,6 +154,4 @@ def _constant(draft, number):
         double = draft.plus([double, double])
         if odd >> place & 1:
             parts.append(double)
-        if len(parts) == MOST_IN_ONE:
-            parts = [draft.plus(parts)]
     return draft.times([draft.plus(parts), _power(draft, two, zeros)])

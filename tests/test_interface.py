@@ -50,6 +50,10 @@ CLASSES = {
         },
     },
     "everyworth.tops": {"Tops": {"__init__": ["self", "k"], **SEMIRING}},
+    "everyworth.slopes": {"Slopes": SEMIRING},
+    "everyworth.desk": {
+        "Desk": {"__init__": ["self", "tables"], "answer": ["self", "line"], "lines": ["self"]},
+    },
 }
 FUNCTIONS = {
     "everyworth.values": {
@@ -90,6 +94,17 @@ FUNCTIONS = {
         "write": ["thing"], "read": ["text"], "store_text": ["facts"], "read_store": ["text"],
     },
     "everyworth.tops": {"best_costs": ["circuits", "node", "k", "costs"]},
+    "everyworth.slopes": {"slope": ["circuits", "node", "fact", "numbers"]},
+    "everyworth.circuittext": {
+        "circuit_text": ["circuits", "node"], "read_circuit": ["circuits", "text"],
+    },
+    "everyworth.impacts": {"impact": ["engine", "number"]},
+    "everyworth.rules": {
+        "check_rule": ["rule", "tables"],
+        "rule_meaning": ["rule", "facts", "semiring", "worths"],
+        "maps_to": ["first", "second"], "is_map": ["first", "second", "table"],
+        "contained": ["first", "second", "tables"], "alike": ["first", "second", "tables"],
+    },
 }
 
 
